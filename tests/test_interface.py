@@ -22,13 +22,97 @@ FUNCTIONS = {
         "adjust": ["day", "holidays", "how"],
         "due_day": ["start", "months", "number"],
     },
+    "products": {
+        "check_tiers": ["tiers"],
+        "parts_of": ["tiers", "size"],
+        "daily_parts": ["credit", "debit", "balance"],
+    },
+    "orders": {
+        "is_name": ["text"],
+    },
 }
 CLASSES = {
     "errors": ["BankError", "BadValue", "BadDay", "Missing", "Refused", "Full", "NotAllowed", "Damaged"],
+    "ledger": ["Ledger"],
+    "products": ["Product"],
+    "deposits": ["Deposits"],
+    "orders": ["Orders"],
 }
 VALUES = {
     "amounts": {"LIMIT": 1000000000, "GREAT": 1000000000000},
     "days": {"LAST_DAY": 36524},
+    "ledger": {"SORTS": ("asset", "debt", "equity", "income", "cost")},
+    "products": {"PARTS": 3600000},
+    "orders": {"ROLES": ("teller", "officer", "chief")},
+}
+METHODS = {
+    ("ledger", "Ledger"): {
+        "__init__": [],
+        "open_account": ["currency", "sort"],
+        "post": ["day", "value", "cause", "lines"],
+        "reverse": ["number", "day", "cause"],
+        "balance": ["account", "booked", "value"],
+        "lines_of": ["account"],
+        "entry": ["number"],
+        "sums": ["currency", "booked", "value"],
+        "currency_of": ["account"],
+        "sort_of": ["account"],
+        "accounts": [],
+        "entries": [],
+    },
+    ("products", "Product"): {
+        "__init__": ["name", "currency", "way"],
+        "add_version": ["first", "credit", "debit"],
+        "version_at": ["day"],
+        "parts_at": ["day", "balance"],
+    },
+    ("deposits", "Deposits"): {
+        "__init__": ["ledger"],
+        "start": ["product", "owner", "day"],
+        "state_of": ["account"],
+        "limit_of": ["account"],
+        "owner_of": ["account"],
+        "opened_on": ["account"],
+        "product_of": ["account"],
+        "own_balance": ["account"],
+        "numbers": [],
+        "set_limit": ["account", "limit"],
+        "freeze": ["account"],
+        "thaw": ["account"],
+        "finish": ["account"],
+        "hold": ["account", "amount", "until"],
+        "held": ["account"],
+        "available": ["account"],
+        "release": ["hold"],
+        "consume": ["hold"],
+        "lapse": ["day"],
+        "hold_of": ["number"],
+        "check_debit": ["account", "amount"],
+        "check_credit": ["account", "amount"],
+        "accrue": ["account", "day"],
+        "would_accrue": ["account", "day"],
+        "accrued": ["account"],
+        "credit_interest": ["account", "day", "against", "cause"],
+    },
+    ("orders", "Orders"): {
+        "__init__": [],
+        "add_user": ["name", "role"],
+        "role_of": ["name"],
+        "may": ["name", "role"],
+        "set_rule": ["kind", "rows"],
+        "place": ["by", "kind", "amount", "key", "until"],
+        "grant": ["by", "number"],
+        "reject": ["by", "number"],
+        "withdraw": ["by", "number"],
+        "expire": ["day"],
+        "complete": ["number"],
+        "fail": ["number"],
+        "order": ["number"],
+        "by_key": ["key"],
+    },
+}
+FIELDS = {
+    ("products", "Product"): (["save", "EUR", "even"], {"name": "save", "currency": "EUR", "way": "even"}),
 }
 
 
@@ -52,6 +136,21 @@ class InterfaceTest(unittest.TestCase):
                 found = getattr(module(name), word)
                 self.assertTrue(inspect.isclass(found), word)
                 self.assertEqual(found.__module__, "corebank." + name, word)
+
+    def test_methods(self):
+        for (name, word), methods in METHODS.items():
+            found = getattr(module(name), word)
+            for method, arguments in methods.items():
+                # In the body of the class itself, not inherited.
+                self.assertIn(method, vars(found), word)
+                self.assertTrue(inspect.isfunction(vars(found)[method]), method)
+                self.assertEqual(list(inspect.signature(vars(found)[method]).parameters), ["self"] + arguments, method)
+
+    def test_fields(self):
+        for (name, word), (arguments, fields) in FIELDS.items():
+            made = getattr(module(name), word)(*arguments)
+            for field, value in fields.items():
+                self.assertEqual(vars(made)[field], value, field)
 
     def test_values(self):
         for name, values in VALUES.items():

@@ -28,6 +28,11 @@ METHODS = set(
     " setdefault split splitlines startswith strip update upper values zfill bit_length removeprefix removesuffix add"
     " discard sort".split()
 )
+BARRED_ATTRIBUTES = set(
+    "items keys values pop update append clear extend insert remove reverse setdefault sort args encode decode hex"
+    " fromhex format format_map mro".split()
+)
+DOUBLE_METHODS = {"__init__"}
 BARRED_NODES = (ast.Global, ast.AsyncFunctionDef, ast.AsyncFor, ast.AsyncWith, ast.Await, ast.Div, ast.MatMult)
 
 
@@ -152,6 +157,23 @@ class LanguageTest(unittest.TestCase):
                 self.assertFalse(name.startswith("__") and not name.endswith("__"), place)
                 if not isinstance(node, ast.FunctionDef) or name not in own_methods():
                     self.assertNotIn(name, dir(builtins), place)
+
+    def test_attributes(self):
+        for place, node in nodes():
+            if isinstance(node, ast.Attribute) and isinstance(node.ctx, ast.Store):
+                self.assertNotIn(node.attr, BARRED_ATTRIBUTES, place)
+                self.assertIsInstance(node.value, ast.Name, place)
+
+    def test_classes(self):
+        for place, node in nodes():
+            if isinstance(node, ast.ClassDef):
+                told = [inner.name for inner in node.body if isinstance(inner, ast.FunctionDef)]
+                stored = [inner.attr for inner in ast.walk(node) if isinstance(inner, ast.Attribute)
+                          and isinstance(inner.ctx, ast.Store) and getattr(inner.value, "id", "") == "self"]
+                self.assertEqual(len(told), len(set(told)), place)
+                self.assertFalse(set(told) & set(stored), place)
+                self.assertFalse([name for name in told if name.startswith("__") and name not in DOUBLE_METHODS], place)
+                self.assertEqual(node.decorator_list, [], place)
 
     def test_builtins(self):
         for place, node in nodes():
