@@ -17,6 +17,12 @@ def is_amount(number):
     return 1 <= number <= LIMIT
 
 
+def check_amount(amount):
+    """Raise BadValue for a number that is no amount."""
+    if not is_amount(amount):
+        raise BadValue("the amount is not from 1 to 1000000000")
+
+
 def check_digits(digits):
     """Raise BadValue for another number of decimal digits than 0 to 3."""
     if not 0 <= digits <= MOST_DIGITS:

@@ -1,17 +1,11 @@
 """Deposit accounts: what a bank owes its customers, with limits, holds and interest."""
 
-from corebank.amounts import LIMIT, divide_rounded, is_amount
+from corebank.amounts import LIMIT, check_amount, divide_rounded
 from corebank.days import check_day
 from corebank.errors import BadDay, BadValue, Full, Missing, Refused
 from corebank.products import PARTS
 
 MOST_HOLDS = 500
-
-
-def check_amount(amount):
-    """Raise BadValue for a number that is no amount."""
-    if not is_amount(amount):
-        raise BadValue("the amount is not from 1 to 1000000000")
 
 
 def parts_over_days(product, lines, opened, day):

@@ -1,6 +1,6 @@
 """Orders: what users place, and what others must grant before it is done."""
 
-from corebank.amounts import is_amount
+from corebank.amounts import check_amount
 from corebank.days import check_day
 from corebank.errors import BadValue, Full, Missing, NotAllowed, Refused
 from corebank.steps import check_starts, last_begun
@@ -118,8 +118,7 @@ class Orders:
         """Raise an error unless an order may be placed with these arguments."""
         self.check_user(by)
         check_name(kind)
-        if not is_amount(amount):
-            raise BadValue("the amount is not from 1 to 1000000000")
+        check_amount(amount)
         if not 1 <= len(key) <= LONGEST_KEY:
             raise BadValue("the key does not have 1 to 20 signs")
         check_day(until)

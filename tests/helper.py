@@ -2,6 +2,9 @@
 
 import unittest
 
+# The texts that are no names, by all that a name must not be.
+NO_NAMES = ["", "abcdefghijklm", "9a", "0", "A", "aB", "a b", " a", "a ", "a-b", "a_b", "a|b", "a/b", "`", "a{", "a:"]
+
 
 class Case(unittest.TestCase):
     """A test case that can ask for the very class of an error."""

@@ -30,6 +30,10 @@ FUNCTIONS = {
     "orders": {
         "is_name": ["text"],
     },
+    "letters": {
+        "write_letter": ["letter"],
+        "read_letter": ["text"],
+    },
 }
 CLASSES = {
     "errors": ["BankError", "BadValue", "BadDay", "Missing", "Refused", "Full", "NotAllowed", "Damaged"],
@@ -37,6 +41,8 @@ CLASSES = {
     "products": ["Product"],
     "deposits": ["Deposits"],
     "orders": ["Orders"],
+    "links": ["Sender", "Receiver"],
+    "clearing": ["Clearing"],
 }
 VALUES = {
     "amounts": {"LIMIT": 1000000000, "GREAT": 1000000000000},
@@ -44,6 +50,7 @@ VALUES = {
     "ledger": {"SORTS": ("asset", "debt", "equity", "income", "cost")},
     "products": {"PARTS": 3600000},
     "orders": {"ROLES": ("teller", "officer", "chief")},
+    "chart": {"CASH": 1, "NOSTRO": 2, "TRANSIT": 3, "SUSPENSE": 4, "INTEREST": 5, "CAPITAL": 6, "CLEARING": "clearing"},
 }
 METHODS = {
     ("ledger", "Ledger"): {
@@ -109,6 +116,31 @@ METHODS = {
         "fail": ["number"],
         "order": ["number"],
         "by_key": ["key"],
+    },
+    ("links", "Sender"): {
+        "__init__": ["me", "other"],
+        "dispatch": ["kind", "fields"],
+        "waiting": [],
+        "acknowledge": ["number"],
+        "sent": [],
+        "acknowledged": [],
+    },
+    ("links", "Receiver"): {
+        "__init__": ["me", "other"],
+        "take": ["text"],
+        "taken": [],
+        "ack": [],
+    },
+    ("clearing", "Clearing"): {
+        "__init__": [],
+        "add_member": ["name", "floor"],
+        "fund": ["name", "units"],
+        "submit": ["key", "payer", "payee", "amount"],
+        "queue": [],
+        "settle": [],
+        "balance_of": ["name"],
+        "floor_of": ["name"],
+        "members": [],
     },
 }
 FIELDS = {
