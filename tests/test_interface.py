@@ -34,6 +34,16 @@ FUNCTIONS = {
         "write_letter": ["letter"],
         "read_letter": ["text"],
     },
+    "bank": {
+        "replay": ["name", "currency", "day", "chief", "deeds"],
+    },
+    "reconcile": {
+        "match": ["ours", "theirs", "window"],
+    },
+    "statements": {
+        "statement": ["ledger", "account", "first", "last"],
+        "daily": ["ledger", "account", "first", "last"],
+    },
 }
 CLASSES = {
     "errors": ["BankError", "BadValue", "BadDay", "Missing", "Refused", "Full", "NotAllowed", "Damaged"],
@@ -43,6 +53,8 @@ CLASSES = {
     "orders": ["Orders"],
     "links": ["Sender", "Receiver"],
     "clearing": ["Clearing"],
+    "bank": ["Bank"],
+    "system": ["System"],
 }
 VALUES = {
     "amounts": {"LIMIT": 1000000000, "GREAT": 1000000000000},
@@ -142,9 +154,47 @@ METHODS = {
         "floor_of": ["name"],
         "members": [],
     },
+    ("bank", "Bank"): {
+        "__init__": ["name", "currency", "day", "chief"],
+        "do": ["by", "deed", "arguments"],
+        "deeds": [],
+        "outgoing": [],
+        "incoming": [],
+        "receive": ["text"],
+        "pending": [],
+        "saved": [],
+        "crash": [],
+        "outbox": [],
+        "take_ack": ["text"],
+        "ack": [],
+        "image": [],
+        "fund": ["amount"],
+    },
+    ("system", "System"): {
+        "__init__": ["currency", "day", "names"],
+        "bank": ["name"],
+        "fund": ["name", "amount"],
+        "collect": [],
+        "deliver": ["place"],
+        "duplicate": ["place"],
+        "lose": ["place"],
+        "spoil": ["place", "at", "sign"],
+        "settle": [],
+        "crash": ["name"],
+        "quiet": [],
+        "stage": ["full_key"],
+        "total": [],
+    },
 }
 FIELDS = {
     ("products", "Product"): (["save", "EUR", "even"], {"name": "save", "currency": "EUR", "way": "even"}),
+    ("bank", "Bank"): (["alpha", "EUR", 5, "boss"], {"name": "alpha", "currency": "EUR", "day": 5}),
+    ("system", "System"): (["EUR", 5, ["a", "b"]], {"mail": []}),
+}
+# Fields that are objects of a class.
+OBJECTS = {
+    ("bank", "Bank"): (["alpha", "EUR", 5, "boss"], {"ledger": "Ledger", "deposits": "Deposits", "orders": "Orders"}),
+    ("system", "System"): (["EUR", 5, ["a", "b"]], {"clearing": "Clearing"}),
 }
 
 
@@ -183,6 +233,12 @@ class InterfaceTest(unittest.TestCase):
             made = getattr(module(name), word)(*arguments)
             for field, value in fields.items():
                 self.assertEqual(vars(made)[field], value, field)
+
+    def test_objects(self):
+        for (name, word), (arguments, fields) in OBJECTS.items():
+            made = getattr(module(name), word)(*arguments)
+            for field, kind in fields.items():
+                self.assertIs(type(vars(made)[field]), getattr(module(field), kind), field)
 
     def test_values(self):
         for name, values in VALUES.items():
