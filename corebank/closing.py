@@ -54,9 +54,9 @@ class Closing:
         elif item[0] == "interest":
             self.deposits.accrue(item[1], day)
         else:
-            self.capitalize(item[1], day)
+            self.post_interest(item[1], day)
 
-    def capitalize(self, account, day):
+    def post_interest(self, account, day):
         """Post the interest of an account, unless the ledger refuses it."""
         try:
             self.deposits.credit_interest(account, day, INTEREST, "interest")

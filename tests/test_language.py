@@ -22,16 +22,18 @@ BARRED_WORDS = set(
     "typing typing_extensions enum Enum IntEnum StrEnum Flag IntFlag Generic Protocol ABC ABCMeta namedtuple NamedTuple"
     " TypedDict TYPE_CHECKING abstractmethod dataclass overload contextmanager".split()
 )
-METHODS = set(
+# The first list of L25, by which own methods may be called, too (L26).
+FIRST_METHODS = set(
     "append clear copy count endswith extend find get index insert isalnum isalpha isdigit islower isspace isupper"
     " items join keys ljust lower lstrip partition pop remove replace reverse rfind rjust rpartition rsplit rstrip"
-    " setdefault split splitlines startswith strip update upper values zfill bit_length removeprefix removesuffix add"
-    " discard sort".split()
+    " setdefault split splitlines startswith strip update upper values zfill bit_length".split()
 )
-BARRED_ATTRIBUTES = set(
-    "items keys values pop update append clear extend insert remove reverse setdefault sort args encode decode hex"
-    " fromhex format format_map mro".split()
-)
+METHODS = FIRST_METHODS | {"removeprefix", "removesuffix", "add", "discard", "sort"}
+# Python 3.11 and 3.13 do not agree which of the names told by L26 a whole number has; a float has them in both.
+NATIVE_NAMES = {name for kind in (str, int, float, list, dict, set, bytes) for name in dir(kind)}
+FREE_METHODS = FIRST_METHODS | {"add", "discard"}
+FREE_ATTRIBUTES = set("count index title find get join lower upper split strip copy add".split())
+BARRED_ATTRIBUTES = (NATIVE_NAMES - FREE_ATTRIBUTES) | {"args", "format", "format_map", "mro"}
 DOUBLE_METHODS = {"__init__"}
 BARRED_NODES = (ast.Global, ast.AsyncFunctionDef, ast.AsyncFor, ast.AsyncWith, ast.Await, ast.Div, ast.MatMult)
 
@@ -163,6 +165,12 @@ class LanguageTest(unittest.TestCase):
             if isinstance(node, ast.Attribute) and isinstance(node.ctx, ast.Store):
                 self.assertNotIn(node.attr, BARRED_ATTRIBUTES, place)
                 self.assertIsInstance(node.value, ast.Name, place)
+
+    def test_own_methods(self):
+        for place, node in nodes():
+            if isinstance(node, ast.ClassDef):
+                told = {inner.name for inner in node.body if isinstance(inner, ast.FunctionDef)}
+                self.assertEqual(told & (NATIVE_NAMES - FREE_METHODS - DOUBLE_METHODS), set(), place)
 
     def test_classes(self):
         for place, node in nodes():
